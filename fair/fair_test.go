@@ -199,9 +199,11 @@ func unsettle(r *rand.Rand, k *cluster.Cluster) {
 }
 
 // settle ends what makes the net unfair, and reports whether every job can still be taken over.
-func settle(r *rand.Rand, k *cluster.Cluster) bool {
+func settle(k *cluster.Cluster, up ...int) bool {
 	k.Fuse(-1)
-	k.Start(r.Intn(3))
+	for _, sched := range up {
+		k.Start(sched)
+	}
 	for _, e := range k.Book() {
 		if book.Left(e) > 0 && e.Epoch == api.MaxEpoch && !k.Up(e.Sched) {
 			return false
@@ -217,7 +219,11 @@ func TestProgress(t *testing.T) {
 		for range 300 + r.Intn(600) {
 			unsettle(r, k)
 		}
-		if !settle(r, k) {
+		up := []int{0, 1, 2}
+		if seed%2 == 0 {
+			up = up[:1]
+		}
+		if !settle(k, up...) {
 			continue
 		}
 		f := 1 + r.Intn(4)
@@ -231,18 +237,31 @@ func TestProgress(t *testing.T) {
 		if v := judge.Look(k); len(judge.Left(v)) > 0 || judge.Verdict(v) != 0 || d.Rounds() > within {
 			t.Fatal(seed, judge.Left(v), judge.Verdict(v))
 		}
-		for range 400 {
-			d.Round()
-		}
-		for _, e := range k.Book() {
-			if book.Left(e) > 0 {
-				t.Fatal(seed, e)
-			}
-		}
-		if v := judge.Look(k); !judge.Idle(v) || len(slices.Concat(v.Runs...)) > 0 || judge.Verdict(v) != 0 {
-			t.Fatal(seed, v.Queues, v.Runs)
+		if len(up) == 3 {
+			atRest(t, k, d)
 		}
 	}
+}
+
+// atRest checks that all tasks finish, in the log, and that nothing is queued then. A worker that knows only an owner
+// that is down may tell it in vain that a task is done; therefore all schedulers are up.
+func atRest(t *testing.T, k *cluster.Cluster, d *Driver) {
+	t.Helper()
+	for n := 0; n < 5000 && !resting(k); n++ {
+		d.Round()
+	}
+	if v := judge.Look(k); !resting(k) || len(slices.Concat(v.Runs...)) > 0 || judge.Verdict(v) != 0 {
+		t.Fatal(v.Queues, v.Runs, v.Book)
+	}
+}
+
+func resting(k *cluster.Cluster) bool {
+	for _, e := range k.Book() {
+		if book.Left(e) > 0 {
+			return false
+		}
+	}
+	return judge.Idle(judge.Look(k))
 }
 
 // failover checks that the jobs of schedulers that are down soon belong to others.
