@@ -118,7 +118,7 @@ func TestFailAndEnd(t *testing.T) {
 	if r.Err() != api.OK || r.End() != api.ErrForm {
 		t.Error("end with bytes left")
 	}
-	if r.Err() != api.OK || r.Num(9) != 5 {
+	if r.Err() != api.OK || r.Num(9) != 5 || r.End() != api.ErrForm {
 		t.Error("end is no read")
 	}
 	r.Num(9)
