@@ -68,6 +68,16 @@ func TestStep(t *testing.T) {
 	}
 }
 
+func TestRecordIsCopied(t *testing.T) {
+	x := accept(5, 1, "gpu", "*")
+	stepped, _ := Step(nil, x)
+	folded, _ := Fold(x)
+	x.Needs[0] = "x"
+	if stepped[0].Needs[0] != "gpu" || folded[0].Needs[0] != "gpu" {
+		t.Error("shares memory")
+	}
+}
+
 func TestExample(t *testing.T) {
 	b, n := Fold(accept(1, 0, "*", "*"), bind(1, 0, 2, 1), own(1, 1, 2))
 	if n != 3 {
@@ -118,6 +128,9 @@ func TestFind(t *testing.T) {
 	e.Bound[0] = 9
 	if b[1].Bound[0] != 1 {
 		t.Error("shares memory")
+	}
+	if e, ok := Find(b, 2); !ok || e.Needs[0] != "a" {
+		t.Error(e, ok)
 	}
 	if e, ok := Find(b, 3); ok || !same(e, api.Entry{}) {
 		t.Error(e)

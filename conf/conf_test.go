@@ -78,7 +78,7 @@ func TestRead(t *testing.T) {
 		line int
 	}{
 		{"", 1}, {"cluster 2 9 3 500 4", 1}, {"\n", 1}, {"names\n", 1}, {"cluster 2 9 3 500\n", 1}, {"cluster 2 9 3 500 4 1\n", 1}, {"cluster  2 9 3 500 4\n", 1},
-		{"cluster 2 9 3 500 4 \n", 1}, {"cluster 02 9 3 500 4\n", 1}, {"cluster 9 9 3 500 4\n", 1}, {"cluster 2 9 3 -0 4\n", 1}, {"Cluster 2 9 3 500 4\n", 1},
+		{"cluster 2 9 3 500 4 \n", 1}, {"cluster 02 9 3 500 4\n", 1}, {"cluster 9 9 3 500 4\n", 1}, {"cluster 2 9 3 -0 4\n", 1}, {"cluster 2 9 3 x 4\n", 1}, {"Cluster 2 9 3 500 4\n", 1},
 		{"cluster 2 9 3 500 4\n", 2}, {"cluster 2 9 3 500 4\nnames arm", 2}, {"cluster 2 9 3 500 4\nnames \n", 2}, {"cluster 2 9 3 500 4\nnames gpu arm\n", 2},
 		{"cluster 2 9 3 500 4\nnames 2\n", 2}, {"cluster 2 9 3 500 4\nname arm\n", 2}, {"cluster 2 9 3 500 4\n\n", 2}, {"cluster 2 9 3 500 4\r\n", 1},
 		{head, 3}, {head + "worker 1 2", 3}, {head + "worker 1\n", 3}, {head + "worker 0 2\n", 3}, {head + "worker 1 65\n", 3}, {head + "worker 1 2 tpu\n", 3},

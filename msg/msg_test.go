@@ -62,7 +62,7 @@ func TestBytes(t *testing.T) {
 		want string
 	}{
 		{api.Msg{Kind: api.Assign, Job: 5, Task: 2, Epoch: 1}, "\x04\x05\x02\x01"}, {api.Msg{Kind: api.Probe, Job: 5, Epoch: 2}, "\x01\x05\x02"},
-		{api.Msg{Kind: api.Full, Job: 300}, "\x02\xf9\x01\x2c"}, {api.Msg{Kind: api.Get, Job: 5}, "\x03\x05"}, {api.Msg{Kind: api.NoTask, Job: 5}, "\x05\x05"},
+		{api.Msg{Kind: api.Full, Job: 300}, "\x02\xf9\x01\x2c"}, {api.Msg{Kind: api.Get, Job: 5}, "\x03\x05"}, {api.Msg{Kind: api.Get, Job: 1}, "\x03\x01"}, {api.Msg{Kind: api.NoTask, Job: 5}, "\x05\x05"},
 		{api.Msg{Kind: api.Cancel, Job: 5}, "\x06\x05"}, {api.Msg{Kind: api.Have, Job: 5, Task: 2}, "\x07\x05\x02"}, {api.Msg{Kind: api.Done, Job: 5}, "\x08\x05\x00"},
 		{api.Msg{Kind: api.Thanks, Job: 5, Task: 15}, "\x09\x05\x0f"}, {api.Msg{Kind: api.Mine, Job: 5, Epoch: 9}, "\x0a\x05\x09"}, {api.Msg{Kind: api.Beat}, "\x0b"},
 	} {

@@ -42,7 +42,7 @@ func TestCheck(t *testing.T) {
 		{[]api.Node{at(16)}, api.ErrArg}, {[]api.Node{at(-1)}, api.ErrArg}, {[]api.Node{{Op: api.Yes, N: 1}}, api.ErrArg},
 		{[]api.Node{y, {Op: api.Not, N: 2}}, api.ErrArg}, {[]api.Node{y, y, {Op: api.And, N: 2}}, api.ErrArg},
 		{[]api.Node{n}, api.ErrArg}, {[]api.Node{y, a}, api.ErrArg}, {[]api.Node{y, y}, api.ErrArg}, {[]api.Node{y, y, a}, api.OK},
-		{[]api.Node{y, y, o, n}, api.OK}, {[]api.Node{{}}, api.ErrArg}, {[]api.Node{{Op: 6}}, api.ErrArg}, {[]api.Node{{Op: -1}}, api.ErrArg},
+		{[]api.Node{y, y, o, n}, api.OK}, {[]api.Node{{}}, api.ErrArg}, {[]api.Node{{}, y}, api.ErrArg}, {[]api.Node{at(16), y}, api.ErrArg}, {[]api.Node{n, y}, api.ErrArg}, {[]api.Node{{Op: api.Yes, N: 1}, y}, api.ErrArg}, {[]api.Node{{Op: 6}}, api.ErrArg}, {[]api.Node{{Op: -1}}, api.ErrArg},
 		{nots(7), api.OK}, {nots(8), api.ErrLong}, {append(nots(8), y), api.ErrArg}, {wide(15), api.OK},
 		{append(wide(15), n), api.ErrLong}, {make([]api.Node, 32), api.ErrLong}, {make([]api.Node, 31), api.ErrArg},
 	} {

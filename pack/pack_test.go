@@ -39,6 +39,14 @@ func TestCheck(t *testing.T) {
 	}
 }
 
+func TestUnknownKinds(t *testing.T) {
+	for _, kind := range []int{0, 5, -1, math.MinInt, math.MaxInt} {
+		if p := (Packet{Kind: kind, From: 0, To: 8, Inc: 1}); Check(p) || Bytes(p) != "" {
+			t.Error(kind)
+		}
+	}
+}
+
 func TestBytes(t *testing.T) {
 	body := "\x06\x02\x00\x09\x01\x02\x03"
 	if got := Bytes(valid[2]); got != string(crc.Seal([]byte(body))) {
