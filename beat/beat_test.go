@@ -25,6 +25,9 @@ func TestTickAndHear(t *testing.T) {
 	if e := Hear(some(), 3); !Same(e, Ear{1, 3, []int{0, 2, 3, 0}}) || !Same(Hear(some(), 1), Ear{1, 3, []int{0, 0, 3, 7}}) {
 		t.Error(e)
 	}
+	if e := Hear(Ear{1, 3, []int{2, 2}}, 0); !Same(e, Ear{1, 3, []int{0, 2}}) || !Silent(Ear{1, 3, []int{3, 3}}, 0) {
+		t.Error(e)
+	}
 	for _, k := range []int{-1, 4, math.MinInt, math.MaxInt} {
 		if !Same(Hear(some(), k), some()) || Silent(some(), k) {
 			t.Error(k)

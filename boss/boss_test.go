@@ -92,6 +92,8 @@ func TestTake(t *testing.T) {
 	}
 	got, e = b.Take(l, nil, 9, api.Msg{Kind: api.Get, Job: 5})
 	check(t, "worker", got, e, out(9, api.Assign, 5, 0, 1), out(8, api.Cancel, 5, 0, 0))
+	got, e = b.Take(l, nil, 8, api.Msg{Kind: api.Get, Job: 7})
+	check(t, "the first worker", got, e, out(8, api.NoTask, 7, 0, 0))
 	d.Fuse(1)
 	if got, e := b.Take(l, nil, 9, api.Msg{Kind: api.Get, Job: 6}); got != nil || e != api.ErrPower {
 		t.Error(e)

@@ -39,6 +39,9 @@ func TestCame(t *testing.T) {
 	if r := Came(some(), 2); !slices.Equal(r.Had, []bool{false, true, true}) || r.Left != 3 || r.Asked != some().Asked {
 		t.Error(r)
 	}
+	if r := Came(some(), 0); !slices.Equal(r.Had, []bool{true, true, false}) {
+		t.Error(r)
+	}
 	for _, task := range []int{1, 3, -1, math.MinInt, math.MaxInt} {
 		if !Same(Came(some(), task), some()) {
 			t.Error(task)

@@ -233,6 +233,20 @@ func TestTick(t *testing.T) {
 	check(t, "nothing to repeat", w.Tick(), nil)
 }
 
+func TestAllThatIsOwedRuns(t *testing.T) {
+	w := New(3, 5, 1)
+	for id := 1; id < 4; id++ {
+		w.Take(0, probe(id, 1))
+	}
+	w.Take(0, assign(7, 0, 1))
+	w.Take(0, assign(7, 1, 1))
+	w.Take(1, probe(8, 1))
+	for range 4 {
+		w.Tick()
+	}
+	check(t, "three requests are given up", w.Tick(), outs(1, of(api.Get, 8)), api.Task{Job: 7}, api.Task{Job: 7, Task: 1})
+}
+
 func TestRepeatsBeginAnew(t *testing.T) {
 	w := New(1, 5, 1)
 	for range 3 {
@@ -269,8 +283,14 @@ func TestMemory(t *testing.T) {
 		a, b := w.Clone(), c.Clone()
 		return queue.Same(a.Queue(), b.Queue()) && slots.Same(a.Slots(), b.Slots()) && table.Same(a.Table(), b.Table())
 	}
-	if !same() {
+	if w.Queue()[0].Job != 6 || w.Slots().Running[0].Job != 5 || w.Slots().Owed[0].Job != 5 || w.Table()[0].State != table.Running || !same() {
 		t.Error("shares memory")
+	}
+	asked := New(1, 1, 1)
+	asked.Take(0, probe(5, 1))
+	asked.Slots().Asked[0].Job = 9
+	if asked.Slots().Asked[0].Job != 5 {
+		t.Error("shares the requests")
 	}
 	c.Finish(api.Task{Job: 5})
 	c.Take(3, probe(6, 7))
