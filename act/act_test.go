@@ -136,6 +136,12 @@ func TestDo(t *testing.T) {
 	if !slices.Equal(k.Net(), same.Net()) || !slices.Equal(k.Events(), same.Events()) || k.Up(0) || len(k.Events()) < 2 {
 		t.Error(k.Events(), same.Events())
 	}
+	two := small()
+	two.Workers = append(two.Workers, two.Workers[0], two.Workers[0])
+	k = cluster.New(two)
+	if Do(k, Act{Do: 10, Bits: 2}) != api.OK || Do(k, submitOf(0, 5, "*")) != api.OK || k.Net()[0].To != 10 {
+		t.Error("draw", k.Net())
+	}
 	for do := range 9 {
 		if e := Do(nil, Act{Do: do}); e != api.ErrArg {
 			t.Error(do, e)

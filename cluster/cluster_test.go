@@ -176,6 +176,55 @@ func TestBareAndRepeated(t *testing.T) {
 	expect(t, "repeated", k, sight{pack.Data, 0, 8, api.Msg{Kind: api.Probe, Job: 1, Epoch: 1}}, sight{pack.Data, 0, 8, api.Msg{Kind: api.Probe, Job: 1, Epoch: 1}})
 }
 
+func TestWorkersTick(t *testing.T) {
+	k := New(small())
+	ok(t, k.Submit(0, of(5, "*")), k.Deliver(0), k.Lose(1))
+	ok(t, k.Tick())
+	get := sight{pack.Data, 8, 0, api.Msg{Kind: api.Get, Job: 5}}
+	if l := sights(t, k); !slices.Contains(l, get) {
+		t.Error("the port of a worker does not tick", l)
+	}
+	for range 12 {
+		ok(t, k.Deliver(0))
+		if len(k.Net()) == 0 {
+			break
+		}
+	}
+	ok(t, k.Finish(0, 0), k.Deliver(0), k.Deliver(0), k.Lose(0))
+	done := sight{pack.Data, 8, 0, api.Msg{Kind: api.Done, Job: 5}}
+	if l := sights(t, k); len(l) != 0 || k.Waits(8, 0) != 0 {
+		t.Fatal("the Thanks is lost", l)
+	}
+	ok(t, k.Tick())
+	expect(t, "too early", k)
+	ok(t, k.Tick())
+	if l := sights(t, k); !slices.Contains(l, done) {
+		t.Error("a worker does not tick", l)
+	}
+}
+
+func TestFinishRange(t *testing.T) {
+	k := New(small())
+	for _, worker := range []int{-1, 1, 64, math.MinInt, math.MaxInt} {
+		if k.Finish(worker, 0) != api.ErrRange {
+			t.Error(worker)
+		}
+	}
+	for _, i := range []int{-1, 0, 1, math.MinInt, math.MaxInt} {
+		if k.Finish(0, i) != api.ErrRange {
+			t.Error(i)
+		}
+	}
+}
+
+func TestDraw(t *testing.T) {
+	k := New(wide())
+	k.Draw(2)
+	k.Draw(1, 7)
+	ok(t, k.Submit(0, of(5, "*")))
+	expect(t, "drawn", k, sight{pack.Data, 0, 10, api.Msg{Kind: api.Probe, Job: 5, Epoch: 1}}, sight{pack.Data, 0, 9, api.Msg{Kind: api.Probe, Job: 5, Epoch: 1}})
+}
+
 func TestNetCalls(t *testing.T) {
 	k := New(small())
 	ok(t, k.Submit(0, of(5, "*")))
@@ -383,7 +432,7 @@ func TestNil(t *testing.T) {
 			t.Error(i, e)
 		}
 	}
-	if !conf.Same(k.Conf(), api.Conf{}) || k.Up(0) || len(k.Book())+len(k.Jobs())+len(k.Events())+len(k.Net()) != 0 || k.Worker(0) != nil || k.Waits(0, 8) != 0 {
+	if !conf.Same(k.Conf(), api.Conf{}) || k.Up(0) || len(k.Book())+len(k.Jobs())+len(k.Events())+len(k.Net()) != 0 || k.Worker(0) != nil || k.Waits(0, 8) != 0 || k.Waits(8, 0) != 0 {
 		t.Error("nil")
 	}
 }

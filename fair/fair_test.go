@@ -65,6 +65,14 @@ func TestLosses(t *testing.T) {
 func TestChoicesInOrder(t *testing.T) {
 	k := cluster.New(wide())
 	k.Tick()
+	if d := New(k, 2, 1, 0, 0, 0); len(k.Net()) == 6 {
+		d.Round()
+		if d.Lost() != 2 {
+			t.Error("the first and the fifth", d.Lost())
+		}
+	}
+	k = cluster.New(wide())
+	k.Tick()
 	d := New(k, 2, 0, 1, 2)
 	before := k.Net()
 	d.Round()
@@ -152,6 +160,10 @@ func TestWithin(t *testing.T) {
 		if got := Within(c, x.f, x.tasks); got != x.want {
 			t.Error(i, got)
 		}
+	}
+	c.Workers = []api.Worker{{Limit: 2}, {Limit: 5}, {Limit: 1}}
+	if Within(c, 0, 0) != 2*(6+4*9*16) || Within(api.Conf{Workers: []api.Worker{{Limit: 5}, {Limit: 1}}, Again: 1}, 0, 0) != 2*4*9*8 {
+		t.Error("the greatest limit")
 	}
 	c.Workers = nil
 	if Within(c, 1, 0) != 2*(6+16*(96+16+4)) {
