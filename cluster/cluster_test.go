@@ -492,6 +492,11 @@ func TestSafety(t *testing.T) {
 				if x.ID != old.ID || x.Epoch < old.Epoch || x.Sched != old.Sched && x.Epoch == old.Epoch {
 					t.Fatal(seed, step, old, x)
 				}
+				for task := range old.Bound {
+					if old.Bound[task] != 0 && x.Bound[task] != old.Bound[task] || old.Done[task] && !x.Done[task] {
+						t.Fatal(seed, step, old, x)
+					}
+				}
 			}
 			before = now
 			for _, e := range now {
@@ -527,5 +532,41 @@ func TestSafety(t *testing.T) {
 	}
 	if launches < 60 {
 		t.Error("too little happened", launches)
+	}
+}
+
+func TestCorruptionIsLoss(t *testing.T) {
+	spoiled := 0
+	for seed := range int64(30) {
+		r, again := rand.New(rand.NewSource(seed)), rand.New(rand.NewSource(seed))
+		lost, turned := New(wide()), New(wide())
+		choose := rand.New(rand.NewSource(seed + 1000))
+		for step := range 600 {
+			chaos(r, lost)
+			chaos(again, turned)
+			n := len(lost.Net())
+			if step%7 != 0 || n == 0 {
+				continue
+			}
+			i := choose.Intn(n)
+			bits := 8 * (len(turned.Net()[i].Bytes) - 1)
+			lost.Lose(i)
+			if turned.Spoil(i, choose.Intn(bits), choose.Uint32()|1) == api.OK {
+				spoiled++
+			}
+			turned.Deliver(i)
+			if !slices.Equal(lost.Net(), turned.Net()) || !slices.Equal(lost.Events(), turned.Events()) || !book.Same(lost.Book(), turned.Book()) {
+				t.Fatal(seed, step)
+			}
+		}
+		for i := range wide().Workers {
+			a, b := lost.Worker(i), turned.Worker(i)
+			if !slices.Equal(a.Queue(), b.Queue()) || !slices.Equal(a.Table(), b.Table()) {
+				t.Fatal(seed, i)
+			}
+		}
+	}
+	if spoiled < 500 {
+		t.Error(spoiled)
 	}
 }
